@@ -134,9 +134,11 @@ func (g giver) named(t api.Term, around scope) Named {
 		return Named{Kind: api.Var, Names: []string{around.name(t.Num)}}
 	}
 	n := Named{Kind: t.Kind, Num: t.Num, Ref: t.Ref}
-	n.Names = g.fresh(around, manyNames(t.Kind, len(t.Kids)))
 	for i, kid := range t.Kids {
-		n.Kids = append(n.Kids, g.named(kid, joined(around, n.boundIn(i))))
+		// What one Kid binds is not bound around the next one: names begin anew.
+		names := g.fresh(around, binds(t.Kind, i))
+		n.Names = append(n.Names, names...)
+		n.Kids = append(n.Kids, g.named(kid, joined(around, names)))
 	}
 	for _, c := range t.Cases {
 		names := g.fresh(around, many(c.Pat))

@@ -46,21 +46,12 @@ func fresh(n int, lists ...[]string) []string {
 	return own
 }
 
-// plainName is Name without its errors; bound are the names around, the one bound last first.
+// plainName is Name without its errors; bound are the names around, the one bound last first. Each part that binds variables is a binder of its own.
 func plainName(t api.Term, bound, free []string) term.Named {
 	if t.Kind == api.Var {
 		return term.Named{Kind: api.Var, Names: []string{slices.Concat(bound, free)[t.Num]}}
 	}
 	n := term.Named{Kind: t.Kind, Num: t.Num, Ref: t.Ref}
-	many := 0
-	switch t.Kind {
-	case api.Lam, api.Let:
-		many = 1
-	case api.Handle:
-		many = 2*len(t.Kids) - 3
-	}
-	n.Names = fresh(many, bound, free)
-	left := n.Names
 	for i, kid := range t.Kids {
 		own := 0
 		switch {
@@ -69,8 +60,9 @@ func plainName(t api.Term, bound, free []string) term.Named {
 		case t.Kind == api.Handle && i > 1:
 			own = 2
 		}
-		n.Kids = append(n.Kids, plainName(kid, outwards(left[:own], bound), free))
-		left = left[own:]
+		names := fresh(own, bound, free)
+		n.Names = append(n.Names, names...)
+		n.Kids = append(n.Kids, plainName(kid, outwards(names, bound), free))
 	}
 	for _, c := range t.Cases {
 		names := fresh(bindings(c.Pat), bound, free)
@@ -114,8 +106,8 @@ func TestNames(t *testing.T) {
 		{let(lam(v(0)), app(v(0), v(1))), []string{"f"}, nlet("a", nlam("a", nv("a")), napp(nv("a"), nv("f")))},
 		{match(v(0), on(two, app(v(0), app(v(1), v(2)))), on(pnat(1), v(0)), on(pany(), v(0))), []string{"a"}, nmatch(nv("a"), non(two, "b c", napp(nv("c"), napp(nv("b"), nv("a")))), non(pnat(1), "", nv("a")), non(pany(), "b", nv("b")))},
 		{handle(r, nat(1), v(0)), nil, nhandle("a", nn(1), nv("a"))},
-		{lam(handle(r, v(0), v(1), app(v(0), app(v(1), v(2))), app(v(0), v(1)))), []string{"c"}, nlam("a", nhandle("b d e f g", nv("a"), nv("a"), napp(nv("e"), napp(nv("d"), nv("a"))), napp(nv("g"), nv("f"))))},
-		{handle(r, lam(v(0)), lam(v(0)), lam(v(1)), lam(v(2))), nil, nhandle("a b c d e", nlam("a", nv("a")), nlam("b", nv("b")), nlam("a", nv("c")), nlam("a", nv("d")))},
+		{lam(handle(r, v(0), v(1), app(v(0), app(v(1), v(2))), app(v(0), v(1)))), []string{"c"}, nlam("a", nhandle("b b d b d", nv("a"), nv("a"), napp(nv("d"), napp(nv("b"), nv("a"))), napp(nv("d"), nv("b"))))},
+		{handle(r, lam(v(0)), lam(v(0)), lam(v(1)), lam(v(2))), nil, nhandle("a a b a b", nlam("a", nv("a")), nlam("b", nv("b")), nlam("c", nv("b")), nlam("c", nv("a")))},
 		{lam(match(v(0), on(two, lam(v(0))))), []string{"b", "aa"}, nlam("a", nmatch(nv("a"), non(two, "c d", nlam("e", nv("e")))))},
 	} {
 		got, e := term.Name(y.t, y.free)
@@ -153,10 +145,44 @@ func TestNameNumbers(t *testing.T) {
 	many, e := term.Name(lam(match(nat(0), on(four, app(v(0), v(63))))), []string{"c"})
 	names := fresh(65, []string{"c"})
 	is(t, "64", many, nlam("a", nmatch(nn(0), term.NamedCase{Pat: four, Names: names[1:], Body: napp(nv(names[64]), nv("b"))})), e, api.OK)
-	clauses := handle(x(1), append([]api.Term{nat(0), lam(v(0))}, times(8, lam(v(2)))...)...)
-	all, e := term.Name(clauses, nil)
-	if !slices.Equal(all.Names, firstNames(17)) || all.Kids[9].Names[0] != "a" || e != api.OK {
-		t.Error(all.Names, e)
+}
+
+// P4.5: each Kid of a Handle that binds variables is a binder of its own, whose names begin behind those that are free or bound around the Handle.
+func TestHandleNames(t *testing.T) {
+	r := x(1)
+	both := app(v(0), v(1))
+	for i, y := range []struct {
+		t    api.Term
+		free []string
+		want term.Named
+	}{
+		{handle(r, v(0), v(0)), []string{"z"}, nhandle("a", nv("z"), nv("a"))},
+		{handle(r, v(0), v(0), both), []string{"z"}, nhandle("a a b", nv("z"), nv("a"), napp(nv("b"), nv("a")))},
+		{handle(r, v(0), v(1), app(v(0), v(2)), v(1)), []string{"b"}, nhandle("a a c a c", nv("b"), nv("b"), napp(nv("c"), nv("b")), nv("a"))},
+		{handle(r, nat(0), nat(0), nat(0)), nil, nhandle("a a b", nn(0), nn(0), nn(0))},
+		{handle(r, v(0), v(0), both), []string{"a"}, nhandle("b b c", nv("a"), nv("b"), napp(nv("c"), nv("b")))},
+		{handle(r, v(0), v(0), both), []string{"b", "a", "d"}, nhandle("c c e", nv("b"), nv("c"), napp(nv("e"), nv("c")))},
+		// Names begin behind those that are bound around the Handle, but not behind those that are bound in a part beside it.
+		{lam(handle(r, v(0), both, both)), nil, nlam("a", nhandle("b b c", nv("a"), napp(nv("b"), nv("a")), napp(nv("c"), nv("b"))))},
+		{let(handle(r, nat(0), v(0), v(1)), handle(r, v(0), v(1), v(2))), nil, nlet("a", nhandle("a a b", nn(0), nv("a"), nv("a")), nhandle("b b c", nv("a"), nv("a"), nv("a")))},
+		{match(handle(r, nat(0), v(0), v(1)), on(pcon(r, 0, pany(), pany()), handle(r, both, v(0), v(0)))), nil, nmatch(nhandle("a a b", nn(0), nv("a"), nv("a")), non(pcon(r, 0, pany(), pany()), "a b", nhandle("c c d", napp(nv("b"), nv("a")), nv("c"), nv("d"))))},
+		{app(handle(r, nat(0), v(0), v(0)), handle(r, nat(0), v(0), v(0))), nil, napp(nhandle("a a b", nn(0), nv("a"), nv("b")), nhandle("a a b", nn(0), nv("a"), nv("b")))},
+		// A Handle in each Kid of a Handle: only what that Kid binds is bound around it.
+		{handle(r, handle(r, nat(0), v(0), v(0)), handle(r, v(0), v(1), v(2)), handle(r, v(1), v(1), v(3))), nil, nhandle("a a b", nhandle("a a b", nn(0), nv("a"), nv("b")), nhandle("b b c", nv("a"), nv("a"), nv("a")), nhandle("c c d", nv("a"), nv("b"), nv("a")))},
+		{handle(r, lam(v(0)), let(v(0), v(0)), lam(v(2)), match(v(0), on(pany(), v(2)))), nil, nhandle("a a b a b", nlam("a", nv("a")), nlet("b", nv("a"), nv("b")), nlam("c", nv("a")), nmatch(nv("b"), non(pany(), "c", nv("a"))))},
+	} {
+		got, e := term.Name(y.t, y.free)
+		is(t, "Name "+strconv.Itoa(i), got, y.want, e, api.OK)
+		back, e := term.Nameless(got, y.free)
+		is(t, "Nameless "+strconv.Itoa(i), back, y.t, e, api.OK)
+	}
+	// A body for each operation that an ability can have, with names that run past z.
+	for _, n := range []int{0, 1, 24, 25, 26, 700} {
+		free := firstNames(n)
+		got, e := term.Name(handle(r, append([]api.Term{nat(0), v(0)}, times(8, both)...)...), free)
+		a, b := letters(n), letters(n+1)
+		want := nhandle(a+strings.Repeat(" "+a+" "+b, 8), append([]term.Named{nn(0), nv(a)}, times(8, napp(nv(b), nv(a)))...)...)
+		is(t, strconv.Itoa(n), got, want, e, api.OK)
 	}
 }
 
